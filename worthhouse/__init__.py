@@ -1,0 +1,1 @@
+"""Worthhouse: rules that may call themselves, over worths of any scale."""

@@ -1,0 +1,112 @@
+"""Rounds: tables of worths of the ruled facts, led on until nothing changes.
+
+Inside the package a program and a store are led by their weights: the list of the
+tuples (head, worth, ruled) of the uses, with the worth of each use.
+"""
+
+from worthhouse.errors import BadTable, NotSteady, TooMany
+from worthhouse.frames import Frame
+from worthhouse.resting import steady
+from worthhouse.rules import Program, need_fit
+from worthhouse.stores import Store
+from worthhouse.uses import uses_of, weight_of
+
+MOST_ROUNDS = 300
+
+
+def ruled_facts(program, store):
+    """The list of all facts of the ruled tables."""
+    need_fit(program, store)
+    return [fact for name, _ in program.frame.ruled() for fact in store.facts_of(name)]
+
+
+def first_table(program, store):
+    """The table with nought for each ruled fact."""
+    return {fact: program.scale.nought for fact in ruled_facts(program, store)}
+
+
+def round_of(program, store, table):
+    """The table behind one round."""
+    facts = ruled_facts(program, store)
+    if not _is_table(program.scale, facts, table):
+        raise BadTable()
+    return led_on(program.scale, weights_of(program, store), facts, table)
+
+
+def tables(program, store, count):
+    """The list of the first table and of those behind 1 to count rounds."""
+    table = first_table(program, store)
+    weights = weights_of(program, store)
+    found = [table]
+    for _ in range(count):
+        table = led_on(program.scale, weights, list(table), table)
+        found.append(table)
+    return found
+
+
+def settled(program, store):
+    """The settled table, and the number of rounds behind which it is there (point S3.4)."""
+    table = first_table(program, store)
+    if not steady(program.scale):
+        raise NotSteady()
+    return led_to_rest(program.scale, weights_of(program, store), list(table), table)
+
+
+def going_round(program, store):
+    """From which round on the tables come again, and after how many rounds (point S3.5)."""
+    table = first_table(program, store)
+    weights = weights_of(program, store)
+    seen = {}
+    for count in range(MOST_ROUNDS + 1):
+        worths = tuple(table.values())
+        if worths in seen:
+            return (seen[worths], count - seen[worths])
+        seen[worths] = count
+        table = led_on(program.scale, weights, list(table), table)
+    raise TooMany()
+
+
+def breaker(scale):
+    """None for a steady scale, else a program and a store whose tables never rest."""
+    if steady(scale):
+        return None
+    frame = Frame([], [], [("p", ())])
+    # Behind k rounds the worth is the sum of k ones: this never rests, as the scale is not steady.
+    start = ("start", ("p", ()), (), (), scale.one)
+    again = ("again", ("p", ()), (("p", ()),), (), scale.one)
+    return (Program(frame, scale, [start, again]), Store(frame, scale, [], []))
+
+
+def weights_of(program, store):
+    """The list of (head, worth, ruled) of all uses."""
+    return [(use[2], weight_of(program, store, use), use[4]) for use in uses_of(program, store)]
+
+
+def led_on(scale, weights, facts, table):
+    """The dict of the worths that a round gives these facts, by the worths that the table has."""
+    parts = {fact: [] for fact in facts}
+    for head, worth, ruled in weights:
+        if head in parts:
+            product = worth
+            for fact in ruled:
+                product = scale.times(product, table[fact])
+            parts[head].append(product)
+    return {fact: scale.total(parts[fact]) for fact in facts}
+
+
+def led_to_rest(scale, weights, facts, table):
+    """The table in which rounds for these facts alone change nothing any more, and their number."""
+    count = 0
+    while True:
+        led = led_on(scale, weights, facts, table)
+        if all([led[fact] == table[fact] for fact in facts]):
+            return (table, count)
+        table = {fact: led[fact] if fact in led else table[fact] for fact in table}
+        count += 1
+
+
+def _is_table(scale, facts, value):
+    """Whether the value, any one, is a dict from just these facts to worths of the scale."""
+    if not isinstance(value, dict) or len(value) != len(facts):
+        return False
+    return all([fact in value and value[fact] in scale for fact in facts])

@@ -1,0 +1,154 @@
+"""Texts of programs and stores (points S2.7 and S2.8)."""
+
+from worthhouse.errors import BadName
+from worthhouse.reading import RowReader
+from worthhouse.rules import Program
+from worthhouse.stores import Store
+from worthhouse.words import is_word
+
+
+def write_program(program):
+    """The text of a program."""
+    return "\n".join([_rule_row(rule) for rule in program.rules()])
+
+
+def read_program(frame, scale, text):
+    """The program of a text."""
+    return Program(frame, scale, [_read_rule(RowReader(number, row)) for number, row in _numbered_rows(text)])
+
+
+def write_store(store):
+    """The text of a store."""
+    things = [f"{thing} of {kind}" for thing, kind in store.things()]
+    rows = [f"{_atom_text((name, filling))} = {worth}" for name, filling, worth in store.rows()]
+    return "\n".join(things + rows)
+
+
+def read_store(frame, scale, text):
+    """The store of a text."""
+    things = []
+    rows = []
+    for number, row in _numbered_rows(text):
+        part = _read_store_row(RowReader(number, row), not rows)
+        if len(part) == 2:
+            things.append(part)
+        else:
+            rows.append(part)
+    return Store(frame, scale, things, rows)
+
+
+def _rule_row(rule):
+    label, head, body, tests, worth = rule
+    start = f"{_plain(label)}: {_atom_text(head)}"
+    items = [_atom_text(atom) for atom in body] + [_test_text(test) for test in tests]
+    if items:
+        start = start + " :- " + ", ".join(items)
+    return f"{start} * {worth}"
+
+
+def _plain(name):
+    """The name, unless it is a made one: texts have none."""
+    if not is_word(name):
+        raise BadName(name)
+    return name
+
+
+def _atom_text(atom):
+    """The text of an atom, and of a fact likewise."""
+    name, places = atom
+    return _plain(name) + "(" + " ".join(places) + ")"
+
+
+def _test_text(test):
+    word, one, other = test
+    sign = "=" if word == "same" else "!="
+    return f"{one} {sign} {other}"
+
+
+def _numbered_rows(text):
+    """The pairs of a row's number and the row; the empty text has none."""
+    if text == "":
+        return []
+    return list(enumerate(text.split("\n")))
+
+
+def _read_rule(reader):
+    label = reader.take_word()
+    reader.skip(": ")
+    head = (reader.take_word(), _read_places(reader, _read_place))
+    reader.skip(" ")
+    items = []
+    if reader.sign() == ":":
+        reader.skip(":- ")
+        items = _read_items(reader)
+        reader.skip(" ")
+    reader.skip("* ")
+    worth = reader.take_worth()
+    reader.end()
+    return (label, head, _of_length(items, 2), _of_length(items, 3), worth)
+
+
+def _of_length(items, many):
+    """The tuple of the items with so many parts: atoms have two, tests have three."""
+    return tuple([item for item in items if len(item) == many])
+
+
+def _read_items(reader):
+    """The list of the atoms and, behind them, the tests of a row."""
+    items = [_read_item(reader, True)]
+    while reader.sign() == ",":
+        reader.skip(", ")
+        items.append(_read_item(reader, len(items[-1]) == 2))
+    return items
+
+
+def _read_item(reader, can_be_atom):
+    """An atom or a test; behind a test there are no atoms any more."""
+    first = _read_place(reader)
+    if reader.sign() == "(" and can_be_atom and is_word(first):
+        return (first, _read_places(reader, _read_place))
+    reader.skip(" ")
+    if reader.sign() == "!":
+        reader.skip("!= ")
+        return ("unlike", first, _read_place(reader))
+    reader.skip("= ")
+    return ("same", first, _read_place(reader))
+
+
+def _read_place(reader):
+    if reader.sign() == "@":
+        reader.skip("@")
+        return "@" + reader.take_word()
+    return reader.take_word()
+
+
+def _read_thing(reader):
+    return reader.take_word()
+
+
+def _read_places(reader, read_one):
+    """What stands in brackets, with single blanks between."""
+    reader.skip("(")
+    places = []
+    if reader.sign() != ")":
+        places.append(read_one(reader))
+        while reader.sign() == " ":
+            reader.skip(" ")
+            places.append(read_one(reader))
+    reader.skip(")")
+    return tuple(places)
+
+
+def _read_store_row(reader, can_be_thing):
+    """A thing and its kind, or a row of the store; behind a row there are no things any more."""
+    word = reader.take_word()
+    if reader.sign() == " " and can_be_thing:
+        reader.skip(" of ")
+        kind = reader.take_word()
+        reader.end()
+        return (word, kind)
+    things = _read_places(reader, _read_thing)
+    reader.skip(" = ")
+    worth = reader.take_worth()
+    reader.end()
+    return (word, things, worth)
