@@ -165,6 +165,9 @@ class Programs(unittest.TestCase):
             rule(head=("good", ("@red",)), body=[("is", ("x", "@red"))]),
             rule(body=[("is", ("x", "@a"))], tests=[("same", "x", "@a")]),
             rule(body=[("is", ("x", "s"))], tests=[("same", "x", "@a"), ("unlike", "@a", "s")]),
+            # several things wrong at once
+            rule(body=[("is", ("x", "x"))], tests=[("same", "x", "@a")]),
+            rule(body=[("is", ("x", "s"))], tests=[("unlike", "x", "s"), ("same", "x", "x")]),
             # words and worths
             rule(worth="3"),
             rule(worth=""),

@@ -142,6 +142,17 @@ class Behind(unittest.TestCase):
         self.assertFalse(first == ScaleMap(CountScale(2), yes_no(), ["no", "yes", "yes"]))
         self.assertFalse(ScaleMap.same(CountScale(2)) == ScaleMap.same(LevelScale(2)))
         self.assertFalse(ScaleMap(CostScale(2), CostScale(2), ["0", "1", "2", "none"]) == ScaleMap(CostScale(2), CostScale(2), ["0", "2", "2", "none"]))
+        # The same images of the same worths, but another source, and another target.
+        self.assertFalse(first == ScaleMap(LevelScale(2), LevelScale(1), ["0", "1", "1"]))
+        order = ["0", "2", "1"]
+        wider = TableScale(
+            order,
+            [[max(a, b, key=order.index) for b in order] for a in order],
+            [[min(a, b, key=order.index) for b in order] for a in order],
+            nought="0",
+            one="1",
+        )
+        self.assertFalse(first == ScaleMap(CountScale(2), wider, ["0", "1", "1"]))
         for other in ODD_VALUES + [["0", "1", "1"], CountScale(2)]:
             self.assertIs(first == other, False)
 

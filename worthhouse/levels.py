@@ -63,6 +63,6 @@ def _levels_by_first(names, hung):
         if name not in done:
             level = [other for other in names if other == name or (other in hung[name] and name in hung[other])]
             found.append(level)
-            for other in level:
-                done.add(other)
+            for member in level:
+                done.add(member)
     return found

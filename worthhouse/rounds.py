@@ -83,14 +83,13 @@ def weights_of(program, store):
 
 
 def led_on(scale, weights, facts, table):
-    """The dict of the worths that a round gives these facts, by the worths that the table has."""
+    """The dict of the worths that a round gives these facts, the heads of all weights being among them."""
     parts = {fact: [] for fact in facts}
     for head, worth, ruled in weights:
-        if head in parts:
-            product = worth
-            for fact in ruled:
-                product = scale.times(product, table[fact])
-            parts[head].append(product)
+        product = worth
+        for fact in ruled:
+            product = scale.times(product, table[fact])
+        parts[head].append(product)
     return {fact: scale.total(parts[fact]) for fact in facts}
 
 

@@ -69,7 +69,7 @@ class TableScale(Scale):
             raise BadScale()
         if not _is_square(worths, sums) or not _is_square(worths, products):
             raise BadScale()
-        if not _is_entry(worths, nought) or not _is_entry(worths, one):
+        if nought not in worths or one not in worths:
             raise BadScale()
         Scale.__init__(self, worths, sums, products, nought, one)
 
@@ -196,11 +196,7 @@ def _is_square(worths, rows):
 def _is_entry_row(worths, row):
     if not is_list(row) or len(row) != len(worths):
         return False
-    return all([_is_entry(worths, entry) for entry in row])
-
-
-def _is_entry(worths, entry):
-    return isinstance(entry, str) and entry in worths
+    return all([entry in worths for entry in row])
 
 
 def _need_size(size, least, most):

@@ -39,8 +39,8 @@ def is_name(value):
         return True
     if not isinstance(value, str):
         return False
-    word, dot, number = value.partition(".")
-    return is_word(word) and dot == "." and is_short_number(number)
+    word, _, number = value.partition(".")
+    return is_word(word) and is_short_number(number)
 
 
 def is_short_number(text):
