@@ -23,15 +23,18 @@ BUILTINS = set(
 METHODS = set(
     "append clear copy count endswith extend find get index insert isalnum isalpha isdigit islower isspace isupper "
     "items join keys ljust lower lstrip partition pop remove replace reverse rfind rjust rpartition rsplit rstrip "
-    "setdefault split splitlines startswith strip update upper values zfill bit_length add discard".split()
+    "setdefault split splitlines startswith strip update upper values zfill bit_length add discard removeprefix".split()
 )
 DUNDERS = set("__init__ __eq__ __len__ __contains__ __call__ __rshift__".split())
 WORDS = re.compile(
     r"\b(type|typing|typing_extensions|enum|Enum|IntEnum|StrEnum|Flag|IntFlag|Generic|Protocol|ABC|ABCMeta|namedtuple"
-    r"|NamedTuple|TypedDict|TYPE_CHECKING|abstractmethod|register|mro|elements|open|input|law|version_info)\b"
+    r"|NamedTuple|TypedDict|TYPE_CHECKING|abstractmethod)\b"
     r"|dataclass|overload|contextmanager|_wall|_WallAttr"
 )
+# These are barred as names alone; a string may be one of them.
+NAMES = re.compile(r"register|mro|elements|open|input|law|version_info|with_traceback|add_note")
 FOLDS = set("any all min max sum sorted".split())
+LISTS = set("list tuple dict enumerate zip reversed".split())
 
 
 def bound_names(function):
@@ -124,6 +127,8 @@ class Language(unittest.TestCase):
                     continue
                 if token.type in (tokenize.NAME, tokenize.STRING):
                     self.assertIsNone(WORDS.search(token.string), (path.name, token.start))
+                if token.type == tokenize.NAME:
+                    self.assertIsNone(NAMES.fullmatch(token.string), (path.name, token.start))
 
     def test_names(self):
         for path, tree in TREES.items():
@@ -196,6 +201,36 @@ class Language(unittest.TestCase):
             self.assertNotIsInstance(node.iter, (ast.Set, ast.SetComp), name)
             self.assertFalse(isinstance(node.iter, ast.Call) and getattr(node.iter.func, "id", "") == "set", name)
 
+    def test_lists_and_dicts_at_module_level_are_only_read(self):
+        for path, tree in TREES.items():
+            kept = {
+                node.targets[0].id
+                for node in tree.body
+                if isinstance(node, ast.Assign) and isinstance(node.value, (ast.List, ast.Dict))
+            }
+            for node in ast.walk(tree):
+                if isinstance(node, ast.Call):
+                    passed = {argument.id for argument in node.args if isinstance(argument, ast.Name)}
+                    self.assertEqual(passed & kept, set(), (path.name, node.lineno))
+
+    def test_what_is_gone_through_later_is_not_kept(self):
+        # L23: these stand in a for, a comprehension or one of a few calls, nowhere else.
+        lazy = {"zip", "enumerate", "reversed", "range", "items", "keys", "values"}
+        for path, tree in TREES.items():
+            allowed = set()
+            for node in ast.walk(tree):
+                if isinstance(node, (ast.For, ast.comprehension)):
+                    allowed.add(node.iter)
+                if isinstance(node, ast.Call) and getattr(node.func, "id", "") in FOLDS | LISTS:
+                    allowed.update(node.args)
+                if isinstance(node, ast.Compare):
+                    allowed.update(node.comparators)
+            for node in ast.walk(tree):
+                if isinstance(node, ast.Call):
+                    name = getattr(node.func, "id", getattr(node.func, "attr", ""))
+                    if name in lazy and not (isinstance(node.func, ast.Attribute) and name == "range"):
+                        self.assertIn(node, allowed, (path.name, node.lineno))
+
     def test_what_a_loop_goes_over_is_not_changed(self):
         changing = {"append", "clear", "extend", "insert", "pop", "remove", "reverse", "setdefault", "update"}
         for name, node in self.each(ast.For):
@@ -218,6 +253,18 @@ class Interface(unittest.TestCase):
         "uses": "uses_of use_worth",
         "rounds": "ruled_facts first_table round_of tables settled going_round breaker",
         "levels": "levels settled_by_levels",
+        "asking": "settled_one_by_one whole_facts settled_on",
+        "lines": "is_tree fact_of worth_of first_wrong line_facts line_worths tree_of",
+        "judging": "sums_of judge_paper",
+        "papers": "paper_of gone_on thinned joined cut",
+        "counting": "grounds tree_count",
+        "questions": "check_question names_of things_of_question term_at",
+        "columns": "columns_of columns_at",
+        "grades": "grade grades few_ground most_ground is_ground rows_in",
+        "derivations": "grade_bounds are_bounds bounded",
+        "running": "run run_at rounds_of",
+        "asktexts": "write_question read_question",
+        "compiling": "compiled compiled_parts store_over asked_facts compiled_run",
     }
     METHODS = {
         "Scale": "worths plus times total __contains__ __len__ __eq__",

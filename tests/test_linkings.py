@@ -1,5 +1,6 @@
 import itertools
 import random
+import time
 import unittest
 
 from tests.samples import ODD_VALUES, families, lone, pairs, small_scales, turning, yes_no
@@ -61,7 +62,19 @@ def first_fault_of(scale, blocks):
     return None
 
 
+LOOKED_THROUGH = []
+
+
 def plain_linkings(scale):
+    """What look_through finds; each scale is looked at once, as this takes long."""
+    for other, blocks in LOOKED_THROUGH:
+        if other == scale:
+            return blocks
+    LOOKED_THROUGH.append((scale, look_through(scale)))
+    return LOOKED_THROUGH[-1][1]
+
+
+def look_through(scale):
     """All linkings in the order of S1.11."""
     places = {worth: k for k, worth in enumerate(scale.worths())}
     found = [in_form(scale, blocks) for blocks in all_partings(scale.worths()) if not first_fault_of(scale, blocks)]
@@ -82,6 +95,14 @@ def many_linked():
     sums = [[b if a == "0" else a if b == "0" else "z" for b in worths] for a in worths]
     products = [["0" if "0" in (a, b) else b if a == "1" else a if b == "1" else "z" for b in worths] for a in worths]
     return TableScale(worths, sums, products, nought="0", one="1")
+
+
+def eight_worths():
+    """Scales of eight worths, some with few linkings and some with many."""
+    found = [scale for scale in families() if len(scale) == 8]
+    found += [PairScale(CountScale(1), LevelScale(3)), PairScale(TurnScale(2), TurnScale(4)), PairScale(CostScale(2), yes_no())]
+    found += [pairs()[2], many_linked()]
+    return [scale for scale in found if len(scale) == 8]
 
 
 class Checked(unittest.TestCase):
@@ -265,9 +286,26 @@ class All(unittest.TestCase):
             self.assertEqual(all_linkings(scale), plain_linkings(scale))
 
     def test_eight_worths(self):
-        for scale in (many_linked(), MostScale(5), TurnScale(8)):
+        for scale in eight_worths():
+            self.assertEqual(len(scale), 8)
             self.assertEqual(all_linkings(scale), plain_linkings(scale))
         self.assertGreater(len(all_linkings(many_linked())), 200)
+
+    def test_seven_worths(self):
+        for scale in [scale for scale in families() + pairs() if len(scale) == 7]:
+            self.assertEqual(all_linkings(scale), plain_linkings(scale))
+
+    def test_not_all_ways_are_looked_through(self):
+        # Callers ask these calls tens of thousands of times.
+        scale = LevelScale(7)
+        start = time.perf_counter()
+        expected = look_through(scale)
+        whole_look = time.perf_counter() - start
+        start = time.perf_counter()
+        for _ in range(5):
+            self.assertEqual(all_linkings(scale), expected)
+            self.assertEqual(len(parting(scale, "1", "5")), 4)
+        self.assertLess(time.perf_counter() - start, whole_look)
 
     def test_more_than_eight_worths(self):
         for scale in (PairScale(CountScale(2), LevelScale(2)), pairs()[0]):
@@ -295,6 +333,16 @@ class Partings(unittest.TestCase):
                 self.assertEqual(parting(scale, a, b), expected)
                 if a == b:
                     self.assertEqual(expected, [])
+
+    def test_eight_worths(self):
+        rng = random.Random(12)
+        for scale in eight_worths():
+            every = plain_linkings(scale)
+            for _ in range(6):
+                a, b = rng.sample(scale.worths(), 2)
+                unlike = [blocks for blocks in every if block_of(blocks, a) != block_of(blocks, b)]
+                expected = [x for x in unlike if not any(len(y) < len(x) and lies_in(x, y) for y in unlike)]
+                self.assertEqual(parting(scale, a, b), expected)
 
     def test_errors(self):
         with self.assertRaises(TooMany):

@@ -1,7 +1,6 @@
 """Levels: ruled tables that hang on one another, and tables settled level by level (point S3.6)."""
 
-from worthhouse.errors import NotSteady
-from worthhouse.resting import steady
+from worthhouse.resting import need_steady
 from worthhouse.rounds import first_table, led_to_rest, weights_of
 
 
@@ -22,8 +21,7 @@ def levels(program):
 def settled_by_levels(program, store):
     """The settled table, and the list of the numbers of rounds, level by level."""
     table = first_table(program, store)
-    if not steady(program.scale):
-        raise NotSteady()
+    need_steady(program.scale)
     weights = weights_of(program, store)
     counts = []
     for level in levels(program):

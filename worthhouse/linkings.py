@@ -1,7 +1,8 @@
 """Linkings: worths parted into blocks that sums and products keep; and quotients by them.
 
-Inside this file a linking is mostly held as marks, a dict from each worth to what
-marks its block: two worths stand in one block if they have the same mark.
+Inside this file a linking is held as marks, a dict from each worth to what marks its
+block (two worths stand in one block if they have the same mark), or as a row, a tuple
+that has for each worth, in order, the place of the first worth of its block.
 """
 
 from worthhouse.errors import BadBlocks, NotLinked, TooMany
@@ -22,14 +23,8 @@ def least_linking(scale, pairs):
     for pair in pairs:
         for worth in pair:
             need_worth(scale, worth)
-    marks = {worth: worth for worth in scale.worths()}
-    waiting = list(pairs)
-    while waiting:
-        a, b = waiting.pop()
-        if marks[a] != marks[b]:
-            marks = _with_one_mark(marks, marks[a], marks[b])
-            waiting.extend(_followers(scale, a, b))
-    return _in_form(scale, marks)
+    places = _places_of(scale)
+    return _blocks_of(scale, _least_row(_folds_of(scale), [(places[a], places[b]) for a, b in pairs]))
 
 
 def met(scale, first, second):
@@ -55,27 +50,23 @@ def all_linkings(scale):
     """The list of all linkings in their one form, those with more blocks first (point S1.11)."""
     if len(scale) > MOST_WORTHS:
         raise TooMany()
-    worths = scale.worths()
-    found = []
-    for row in _partings(len(worths)):
-        marks = dict(zip(worths, row))
-        if _first_unlinked(scale, marks) is None:
-            found.append(_in_form(scale, marks))
-    # The rows come in the order that the document asks for among as many blocks.
-    return [blocks for size in range(len(worths), 0, -1) for blocks in found if len(blocks) == size]
+    return [_blocks_of(scale, row) for row in _all_rows(scale)]
 
 
 def parting(scale, a, b):
     """The list of the coarsest linkings in which a and b do not stand together."""
-    linkings = all_linkings(scale)
+    if len(scale) > MOST_WORTHS:
+        raise TooMany()
     need_worth(scale, a)
     need_worth(scale, b)
-    unlike = []
-    for blocks in linkings:
-        marks = _marks_of(blocks)
-        if marks[a] != marks[b]:
-            unlike.append((blocks, marks))
-    return [blocks for blocks, marks in unlike if not _has_coarser(unlike, blocks, marks)]
+    places = _places_of(scale)
+    one, other = places[a], places[b]
+    coarsest = []
+    # A coarser linking has fewer blocks, so it comes first in this direction.
+    for row in reversed(_all_rows(scale)):
+        if row[one] != row[other] and not any([_lies_in(row, coarser) for coarser in coarsest]):
+            coarsest.append(row)
+    return [_blocks_of(scale, row) for row in reversed(coarsest)]
 
 
 def quotient(scale, blocks):
@@ -144,33 +135,78 @@ def _firsts(scale, marks):
     return {worth: block[0] for block in _in_form(scale, marks) for worth in block}
 
 
-def _with_one_mark(marks, mark, other):
-    """The marks in which the blocks of two marks have become one."""
-    return {worth: mark if marks[worth] == other else marks[worth] for worth in marks}
+def _places_of(scale):
+    """A dict from each worth to its place in the scale's order."""
+    return {worth: place for place, worth in enumerate(scale.worths())}
 
 
-def _followers(scale, a, b):
-    """The pairs that must stand together if a and b do."""
-    sums = [(scale.plus(a, c), scale.plus(b, c)) for c in scale.worths()]
-    products = [(scale.times(a, c), scale.times(b, c)) for c in scale.worths()]
-    return sums + products
+def _blocks_of(scale, row):
+    """The blocks in the one form."""
+    return _in_form(scale, dict(zip(scale.worths(), row)))
 
 
-def _partings(many):
-    """All ways to part so many worths: rows that tell for each the place of the first one of its block."""
-    rows = [()]
-    for place in range(many):
-        rows = [row + (first,) for row in rows for first in range(place + 1) if first == place or row[first] == first]
-    return rows
+def _folds_of(scale):
+    """For each worth, by its place, the places of its sums with all worths and of its products with all."""
+    worths = scale.worths()
+    places = _places_of(scale)
+    return [
+        [places[scale.plus(a, c)] for c in worths] + [places[scale.times(a, c)] for c in worths] for a in worths
+    ]
 
 
-def _has_coarser(unlike, blocks, marks):
-    """Whether another one of the linkings is coarser than these blocks."""
-    for others, other_marks in unlike:
-        if other_marks != marks and all([_stand_together(other_marks, block) for block in blocks]):
-            return True
-    return False
+def _least_row(folds, pairs):
+    """The row of the least linking in which the worths at the two places of each pair stand together."""
+    row = list(range(len(folds)))
+    waiting = list(pairs)
+    while waiting:
+        a, b = waiting.pop()
+        if row[a] != row[b]:
+            row = _with_one_block(row, row[a], row[b])
+            waiting.extend(list(zip(folds[a], folds[b])))
+    return tuple(row)
 
 
-def _stand_together(marks, worths):
-    return all([marks[worth] == marks[worths[0]] for worth in worths])
+def _with_one_block(row, first, second):
+    """The row in which two blocks, told by the places of their first worths, have become one."""
+    least = min(first, second)
+    gone = max(first, second)
+    return [least if place == gone else place for place in row]
+
+
+def _all_rows(scale):
+    """The rows of all linkings, in the order of point S1.11.
+
+    Each linking joins linkings that are the least ones for a pair. Of these, those with
+    more blocks are taken first, so one that joins earlier ones has been found by then.
+    """
+    folds = _folds_of(scale)
+    size = len(folds)
+    found = {tuple(range(size)): True}
+    for least in _ordered_rows([_least_row(folds, [(a, b)]) for b in range(size) for a in range(b)]):
+        if least not in found:
+            further = [_joined_row(row, least) for row in found]
+            found.update({row: True for row in further})
+    return _ordered_rows(list(found))
+
+
+def _ordered_rows(rows):
+    """The rows, those with more blocks first, of as many blocks by what is written down."""
+    return [row for _, row in sorted([(-_many_blocks(row), row) for row in rows])]
+
+
+def _many_blocks(row):
+    return len([place for place, first in enumerate(row) if first == place])
+
+
+def _joined_row(first, second):
+    """The row of the least linking whose blocks have those of both within them; sums and products keep it, too."""
+    row = list(first)
+    for place, other in enumerate(second):
+        if row[place] != row[other]:
+            row = _with_one_block(row, row[place], row[other])
+    return tuple(row)
+
+
+def _lies_in(row, coarser):
+    """Whether each block of the first row lies within a block of the second one."""
+    return all([coarser[place] == coarser[first] for place, first in enumerate(row)])

@@ -28,6 +28,12 @@ def steady(scale):
     return all([rest_of(scale, c) is not None for c in scale.worths()])
 
 
+def need_steady(scale):
+    """Raises NotSteady unless the scale is steady."""
+    if not steady(scale):
+        raise NotSteady()
+
+
 def within(scale, a, b):
     """Whether a and some worth have the sum b."""
     need_worth(scale, a)
@@ -37,8 +43,7 @@ def within(scale, a, b):
 
 def height(scale):
     """How often a worth of a steady scale can climb, at most (point S1.7)."""
-    if not steady(scale):
-        raise NotSteady()
+    need_steady(scale)
     worths = scale.worths()
     below = {b: [a for a in worths if a != b and within(scale, a, b)] for b in worths}
     longest = {b: 0 for b in worths}

@@ -4,12 +4,12 @@ Inside the package a program and a store are led by their weights: the list of t
 tuples (head, worth, ruled) of the uses, with the worth of each use.
 """
 
-from worthhouse.errors import BadTable, NotSteady, TooMany
+from worthhouse.errors import BadTable, TooMany, UnknownFact
 from worthhouse.frames import Frame
-from worthhouse.resting import steady
+from worthhouse.resting import need_steady, steady
 from worthhouse.rules import Program, need_fit
-from worthhouse.stores import Store
-from worthhouse.uses import uses_of, weight_of
+from worthhouse.stores import Store, is_fact
+from worthhouse.uses import weighed_uses
 
 MOST_ROUNDS = 300
 
@@ -18,6 +18,18 @@ def ruled_facts(program, store):
     """The list of all facts of the ruled tables."""
     need_fit(program, store)
     return [fact for name, _ in program.frame.ruled() for fact in store.facts_of(name)]
+
+
+def is_ruled_fact(program, store, value):
+    """Whether the value, any one, is a fact of a ruled table."""
+    return is_fact(program.frame, store, value) and program.frame.has_ruled(value[0])
+
+
+def need_ruled_facts(program, store, facts):
+    """Raises UnknownFact for the first of the facts, any values, that is no ruled fact."""
+    for fact in facts:
+        if not is_ruled_fact(program, store, fact):
+            raise UnknownFact(fact)
 
 
 def first_table(program, store):
@@ -47,8 +59,7 @@ def tables(program, store, count):
 def settled(program, store):
     """The settled table, and the number of rounds behind which it is there (point S3.4)."""
     table = first_table(program, store)
-    if not steady(program.scale):
-        raise NotSteady()
+    need_steady(program.scale)
     return led_to_rest(program.scale, weights_of(program, store), list(table), table)
 
 
@@ -79,7 +90,12 @@ def breaker(scale):
 
 def weights_of(program, store):
     """The list of (head, worth, ruled) of all uses."""
-    return [(use[2], weight_of(program, store, use), use[4]) for use in uses_of(program, store)]
+    return weights_by(weighed_uses(program, store))
+
+
+def weights_by(weighed):
+    """The list of (head, worth, ruled) by the pairs of a use and its worth."""
+    return [(use[2], worth, use[4]) for use, worth in weighed]
 
 
 def led_on(scale, weights, facts, table):

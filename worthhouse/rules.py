@@ -41,17 +41,27 @@ class Program:
         """The list of the labels, in order."""
         return list(self._rules)
 
+    def has_rule(self, label):
+        """Whether the label, any value, is that of a rule."""
+        return is_known(self._rules, label)
+
     def rule(self, label):
         """The rule with this label."""
-        if not is_known(self._rules, label):
+        if not self.has_rule(label):
             raise UnknownLabel(label)
         return self._rules[label]
 
     def variables(self, label):
         """The tuple of the variables of a rule, in the order in which they first stand."""
-        if not is_known(self._rules, label):
+        if not self.has_rule(label):
             raise UnknownLabel(label)
         return tuple(self._kinds[label])
+
+    def kinds_of(self, label):
+        """The list of the kinds of the variables of a rule, in their order."""
+        if not self.has_rule(label):
+            raise UnknownLabel(label)
+        return list(self._kinds[label].values())
 
     def kind_at(self, label, variable):
         """The kind of a variable of a rule."""

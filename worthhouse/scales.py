@@ -23,14 +23,12 @@ class Scale:
 
     def plus(self, a, b):
         """The sum of two worths."""
-        need_worth(self, a)
-        need_worth(self, b)
+        self._need_both(a, b)
         return self._sums[a][b]
 
     def times(self, a, b):
         """The product of two worths."""
-        need_worth(self, a)
-        need_worth(self, b)
+        self._need_both(a, b)
         return self._products[a][b]
 
     def total(self, row):
@@ -42,6 +40,11 @@ class Scale:
         for further in row[1:]:
             worth = self.plus(worth, further)
         return worth
+
+    def _need_both(self, a, b):
+        # Sums and products are asked for most of all, so the usual case is one short look.
+        if not isinstance(a, str) or not isinstance(b, str) or a not in self._sums or b not in self._sums:
+            raise UnknownWorth(b if a in self else a)
 
     def __contains__(self, worth):
         return is_known(self._sums, worth)

@@ -20,7 +20,7 @@ def read_program(frame, scale, text):
 def write_store(store):
     """The text of a store."""
     things = [f"{thing} of {kind}" for thing, kind in store.things()]
-    rows = [f"{_atom_text((name, filling))} = {worth}" for name, filling, worth in store.rows()]
+    rows = [f"{atom_text((name, filling))} = {worth}" for name, filling, worth in store.rows()]
     return "\n".join(things + rows)
 
 
@@ -39,8 +39,8 @@ def read_store(frame, scale, text):
 
 def _rule_row(rule):
     label, head, body, tests, worth = rule
-    start = f"{_plain(label)}: {_atom_text(head)}"
-    items = [_atom_text(atom) for atom in body] + [_test_text(test) for test in tests]
+    start = f"{_plain(label)}: {atom_text(head)}"
+    items = [atom_text(atom) for atom in body] + [test_text(test) for test in tests]
     if items:
         start = start + " :- " + ", ".join(items)
     return f"{start} * {worth}"
@@ -53,13 +53,14 @@ def _plain(name):
     return name
 
 
-def _atom_text(atom):
+def atom_text(atom):
     """The text of an atom, and of a fact likewise."""
     name, places = atom
     return _plain(name) + "(" + " ".join(places) + ")"
 
 
-def _test_text(test):
+def test_text(test):
+    """The text of a test."""
     word, one, other = test
     sign = "=" if word == "same" else "!="
     return f"{one} {sign} {other}"
@@ -75,7 +76,7 @@ def _numbered_rows(text):
 def _read_rule(reader):
     label = reader.take_word()
     reader.skip(": ")
-    head = (reader.take_word(), _read_places(reader, _read_place))
+    head = (reader.take_word(), read_places(reader, read_place))
     reader.skip(" ")
     items = []
     if reader.sign() == ":":
@@ -104,18 +105,24 @@ def _read_items(reader):
 
 def _read_item(reader, can_be_atom):
     """An atom or a test; behind a test there are no atoms any more."""
-    first = _read_place(reader)
+    first = read_place(reader)
     if reader.sign() == "(" and can_be_atom and is_word(first):
-        return (first, _read_places(reader, _read_place))
+        return (first, read_places(reader, read_place))
+    return read_test_on(reader, first)
+
+
+def read_test_on(reader, first):
+    """A test whose first place has been read."""
     reader.skip(" ")
     if reader.sign() == "!":
         reader.skip("!= ")
-        return ("unlike", first, _read_place(reader))
+        return ("unlike", first, read_place(reader))
     reader.skip("= ")
-    return ("same", first, _read_place(reader))
+    return ("same", first, read_place(reader))
 
 
-def _read_place(reader):
+def read_place(reader):
+    """A variable, or the sign "@" and a thing."""
     if reader.sign() == "@":
         reader.skip("@")
         return "@" + reader.take_word()
@@ -126,7 +133,7 @@ def _read_thing(reader):
     return reader.take_word()
 
 
-def _read_places(reader, read_one):
+def read_places(reader, read_one):
     """What stands in brackets, with single blanks between."""
     reader.skip("(")
     places = []
@@ -147,7 +154,7 @@ def _read_store_row(reader, can_be_thing):
         kind = reader.take_word()
         reader.end()
         return (word, kind)
-    things = _read_places(reader, _read_thing)
+    things = read_places(reader, _read_thing)
     reader.skip(" = ")
     worth = reader.take_worth()
     reader.end()
