@@ -66,6 +66,11 @@ class Compiled(unittest.TestCase):
             [(("q.0", ()), (("t", ("v1", "v2")),), (), "1"), (("q.1", ("v0",)), (("a", ("v0",)),), (), "1")],
         )
 
+    def test_other_names_than_variables_do_not_take_a_word(self):
+        term = ("let", "v0", (), Z, ("over", "x", ("with", A_X, ("call", "v0", ()))))
+        self.assertEqual(rules((), term)[0], (("q.0", ()), (("a", ("v0",)), ("q.1", ())), (), "1"))
+        self.assertEqual(rules((), ("over", "x", ("with", A_X, ("table", "a", ("@v0",)))))[0][1][0], ("a", ("v0",)))
+
     def test_all_ways_keep_one_word(self):
         term = ("over", "y", ("both", T_XY, ("with", A_X, A_Y)))
         self.assertEqual(
@@ -242,6 +247,27 @@ class CompiledRun(unittest.TestCase):
             return names == sorted(names)
         return True
 
+    def test_tests_between_atoms_that_share_no_variable(self):
+        some = store(COUNTS, [("a", ("c",), "2"), ("a", ("d",), "3")], [("c", "k"), ("d", "k"), ("e", "k")])
+        for p, q in (("x", "y"), ("y", "x")):
+            apart = ("where", ("unlike", p, q), ("with", A_X, A_Y))
+            together = ("where", ("same", p, q), ("with", A_X, A_Y))
+            for call in (run, compiled_run):
+                self.assertEqual(call(FRAME, COUNTS, some, (("x", "y"), apart))[("c", "d")], "6")
+                self.assertEqual(call(FRAME, COUNTS, some, (("x",), ("over", "y", apart))), {("c",): "6", ("d",): "6", ("e",): "0"})
+                self.assertEqual(call(FRAME, COUNTS, some, (("y",), ("over", "x", together))), {("c",): "4", ("d",): "7", ("e",): "0"})
+                self.assertEqual(call(FRAME, COUNTS, some, ((), ("over", "x", ("over", "y", together)))), {(): "7"})
+                self.assertEqual(call(FRAME, COUNTS, some, ((), ("over", "y", ("over", "x", ("with", apart, ("worth", "0")))))), {(): "0"})
+        three = ("with", ("table", "a", ("z",)), ("where", ("unlike", "x", "y"), ("with", A_X, A_Y)))
+        three = ("where", ("unlike", "z", "x"), ("where", ("same", "y", "z"), three))
+        for order in (("x", "y", "z"), ("z", "y", "x"), ("y", "x", "z")):
+            term = three
+            for name in order:
+                term = ("over", name, term)
+            costs = store(CostScale(6), [("a", ("c",), "1"), ("a", ("d",), "2")])
+            self.assertEqual(compiled_run(FRAME, CostScale(6), costs, ((), term)), {(): "4"})
+            self.assertEqual(run(FRAME, CostScale(6), costs, ((), term)), {(): "4"})
+
     def test_very_many_uses(self):
         # The one rule has twelve variables besides those of its head, so there are 3 ** 12 uses.
         term = A_X
@@ -266,6 +292,10 @@ class CompiledRun(unittest.TestCase):
                 some = cases.store(scale, share=0.4)
                 self.assertEqual(compiled_run(cases.frame, scale, some, asked), run(cases.frame, scale, some, asked))
                 self.assertGreaterEqual(len(compiled_parts(cases.frame, scale, asked)), len(names_of(asked)) + 1)
+
+
+class CompiledOverSums(test_running.OverSums):
+    RUN = staticmethod(compiled_run)
 
 
 class CompiledErrors(test_running.Errors):
