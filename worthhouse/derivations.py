@@ -3,8 +3,8 @@
 Inside this file a bound is a number from 0 to MANY, or None.
 """
 
-from worthhouse.grades import many_word, need_told
-from worthhouse.groundforms import MANY, best_grounds, nodes_of
+from worthhouse.grades import need_told
+from worthhouse.groundforms import MANY, best_grounds, many_word, nodes_of
 from worthhouse.words import is_number
 
 

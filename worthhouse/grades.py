@@ -1,7 +1,7 @@
 """Grades of told tables in questions, and grounds (points S5.4 and S5.5)."""
 
 from worthhouse.errors import NotTold
-from worthhouse.groundforms import MANY, best_grounds, is_ground_of, nodes_of
+from worthhouse.groundforms import best_grounds, is_ground_of, many_word, nodes_of
 from worthhouse.questionkinds import checked
 
 
@@ -57,11 +57,6 @@ def need_told(frame, scale, question, name):
     checked(frame, scale, question)
     if not frame.has_told(name):
         raise NotTold(name)
-
-
-def many_word(number):
-    """The number as grades and bounds tell it."""
-    return "many" if number == MANY else number
 
 
 def _grade(nodes, named, name):

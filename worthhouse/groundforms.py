@@ -11,6 +11,11 @@ from worthhouse.questionforms import BEHIND, going, names_table, parts_of
 MANY = 4
 
 
+def many_word(number):
+    """The number as grades and bounds tell it."""
+    return "many" if number == MANY else number
+
+
 def nodes_of(question):
     """The nodes of a question, and the dict of its names R."""
     nodes = []

@@ -38,17 +38,17 @@ def first_wrong(program, store, lines):
 
 def line_facts(program, store, lines):
     """The list of the facts for which the lines are."""
-    return [use[2] for use in _all_right_uses(program, store, lines)]
+    return [use[2] for use in uses_of_lines(program, store, lines)]
 
 
 def line_worths(program, store, lines):
     """The list of the worths of the lines."""
-    return worths_of_lines(program, store, lines, _all_right_uses(program, store, lines))
+    return worths_of_lines(program, store, lines, uses_of_lines(program, store, lines))
 
 
 def tree_of(program, store, lines, k):
     """The tree for which line k stands."""
-    _all_right_uses(program, store, lines)
+    uses_of_lines(program, store, lines)
     if not 0 <= k < len(lines):
         raise NoLine(k)
     trees = []
@@ -87,7 +87,8 @@ def worths_of_lines(program, store, lines, uses):
     return worths
 
 
-def _all_right_uses(program, store, lines):
+def uses_of_lines(program, store, lines):
+    """The list of the uses of the lines, all of which must be right."""
     need_fit(program, store)
     uses = right_uses(program, store, lines)
     if len(uses) < len(lines):

@@ -100,13 +100,14 @@ def weights_by(weighed):
 
 def led_on(scale, weights, facts, table):
     """The dict of the worths that a round gives these facts, the heads of all weights being among them."""
-    parts = {fact: [] for fact in facts}
+    sums = scale.sum_rows()
+    products = scale.product_rows()
+    led = {}
     for head, worth, ruled in weights:
-        product = worth
         for fact in ruled:
-            product = scale.times(product, table[fact])
-        parts[head].append(product)
-    return {fact: scale.total(parts[fact]) for fact in facts}
+            worth = products[worth][table[fact]]
+        led[head] = sums[led[head]][worth] if head in led else worth
+    return {fact: led.get(fact, scale.nought) for fact in facts}
 
 
 def led_to_rest(scale, weights, facts, table):

@@ -35,13 +35,13 @@ def _led_table(scale, worths, name, rules):
     together = ((), {})
     for rule in rules:
         places = rule[1][1]
-        led = (places, by_columns(_relation_of(scale, worths, rule), places))
+        led = (places, by_columns(relation_of(scale, worths, rule), places))
         together = summed(scale, led, together)
     return together[1]
 
 
-def _relation_of(scale, worths, rule):
-    """The relation of the variables of a rule's head."""
+def relation_of(scale, worths, rule):
+    """The relation of the variables of a rule's head, by a dict from the tables in its body to their worths."""
     _, head, body, tests, worth = rule
     parts = [alone(scale, worth)] + [at_places(worths[name], places) for name, places in body]
     parts, left = _tested_parts(parts, tests)

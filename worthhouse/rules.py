@@ -17,6 +17,7 @@ class Program:
     def _take(self, rules, is_label):
         self._rules = {}
         self._kinds = {}
+        self._shapes = {}
         things = {}
         for number, rule in enumerate(rules):
             kinds = self._kinds_beside(rule, things, is_label)
@@ -74,6 +75,25 @@ class Program:
         if not self.frame.has_ruled(name):
             raise UnknownName(name)
         return [label for label in self._rules if self._rules[label][1][0] == name]
+
+    def shape(self, label):
+        """What all uses of a rule share: the tuple (named, head, told, ruled).
+
+        named are the things that the atoms name. An atom is told as a pair of its table
+        and the numbers that its places have among the variables and, behind them, named.
+        """
+        if label not in self._shapes:
+            self._shapes[label] = self._shape_of(label)
+        return self._shapes[label]
+
+    def _shape_of(self, label):
+        _, head, body, _, _ = self.rule(label)
+        named = tuple({place: True for _, places in (head, *body) for place in places if names_thing(place)})
+        numbers = {place: number for number, place in enumerate(self.variables(label) + named)}
+        atoms = [(name, tuple([numbers[place] for place in places])) for name, places in (head, *body)]
+        told = [atom for atom in atoms[1:] if not self.frame.is_ruled(atom[0])]
+        ruled = [atom for atom in atoms[1:] if self.frame.is_ruled(atom[0])]
+        return (tuple([place[1:] for place in named]), atoms[0], told, ruled)
 
     def needed(self):
         """The list of the things that the rules name, each with its kind."""

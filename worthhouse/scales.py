@@ -41,6 +41,14 @@ class Scale:
             worth = self.plus(worth, further)
         return worth
 
+    def sum_rows(self):
+        """A dict from the worths to dicts from the worths to the sums of both; who asks for it changes nothing."""
+        return self._sums
+
+    def product_rows(self):
+        """A dict from the worths to dicts from the worths to the products of both; who asks for it changes nothing."""
+        return self._products
+
     def _need_both(self, a, b):
         # Sums and products are asked for most of all, so the usual case is one short look.
         if not isinstance(a, str) or not isinstance(b, str) or a not in self._sums or b not in self._sums:

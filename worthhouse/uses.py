@@ -1,18 +1,14 @@
 """Uses of rules, and their worths (point S3.1)."""
 
 from worthhouse.fillings import fillings_of
-from worthhouse.ruleforms import names_thing, test_holds
+from worthhouse.ruleforms import test_holds
 from worthhouse.rules import need_fit
 
 
 def uses_of(program, store):
     """The list of all uses, rule by rule."""
     need_fit(program, store)
-    found = []
-    for label in program.labels():
-        shape = _shape_of(program, label)
-        found.extend([_use(shape, things) for things in fillings_of(program, store, label)])
-    return found
+    return [use for label in program.labels() for use in _uses_for(program, store, label)]
 
 
 def use_worth(program, store, use):
@@ -36,8 +32,23 @@ def weight_of(program, worths, use):
 
 def weighed_uses(program, store):
     """The list of the pairs of a use and its worth, of all uses."""
+    need_fit(program, store)
+    return weighed_uses_for(program, store, program.labels())
+
+
+def weighed_uses_for(program, store, labels):
+    """The list of the pairs of a use and its worth, of the uses of some rules of a program that fits the store."""
     worths = row_worths(store)
-    return [(use, weight_of(program, worths, use)) for use in uses_of(program, store)]
+    products = program.scale.product_rows()
+    found = []
+    for label in labels:
+        own = program.rule(label)[4]
+        for use in _uses_for(program, store, label):
+            worth = own
+            for fact in use[3]:
+                worth = products[worth][worths[fact]]
+            found.append((use, worth))
+    return found
 
 
 def use_at(program, store, label, things):
@@ -47,31 +58,31 @@ def use_at(program, store, label, things):
     kinds = program.kinds_of(label)
     if len(things) != len(kinds) or not all([store.has_thing(thing, kind) for thing, kind in zip(things, kinds)]):
         return None
-    filling = dict(zip(program.variables(label), things))
-    if not all([test_holds(test, filling) for test in program.rule(label)[3]]):
-        return None
-    use = _use(_shape_of(program, label), things)
+    tests = program.rule(label)[3]
+    if tests:
+        filling = dict(zip(program.variables(label), things))
+        if not all([test_holds(test, filling) for test in tests]):
+            return None
+    use = _use(label, program.shape(label), things)
     if not all([store.has(name, filled) for name, filled in use[3]]):
         return None
     return use
 
 
-def _shape_of(program, label):
-    """What all uses of a rule share: label, variables, the things it names, head, atoms of told and of ruled tables."""
-    _, head, body, _, _ = program.rule(label)
-    named = {place: place[1:] for _, places in (head, *body) for place in places if names_thing(place)}
-    told = [atom for atom in body if not program.frame.is_ruled(atom[0])]
-    ruled = [atom for atom in body if program.frame.is_ruled(atom[0])]
-    return (label, program.variables(label), named, head, told, ruled)
+def _uses_for(program, store, label):
+    """The list of the uses of a rule."""
+    shape = program.shape(label)
+    return [_use(label, shape, things) for things in fillings_of(program, store, label)]
 
 
-def _use(shape, things):
-    label, variables, named, head, told, ruled = shape
-    filling = {**named, **dict(zip(variables, things))}
-    head_fact = _facts_at([head], filling)[0]
-    return (label, things, head_fact, tuple(_facts_at(told, filling)), tuple(_facts_at(ruled, filling)))
-
-
-def _facts_at(atoms, filling):
-    """The facts that the atoms become, by a dict from all their places to things."""
-    return [(name, tuple([filling[place] for place in places])) for name, places in atoms]
+def _use(label, shape, things):
+    named, head, told, ruled = shape
+    values = things + named
+    head_name, head_picks = head
+    return (
+        label,
+        things,
+        (head_name, tuple([values[pick] for pick in head_picks])),
+        tuple([(name, tuple([values[pick] for pick in picks])) for name, picks in told]),
+        tuple([(name, tuple([values[pick] for pick in picks])) for name, picks in ruled]),
+    )
