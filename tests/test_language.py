@@ -285,6 +285,12 @@ class Interface(unittest.TestCase):
         "costs": "cost plan_costs best_plan",
         "edits": "edited back deeds_between touched changed kept_lines kept_on",
         "needs": "worths_at needed_rows needs losses rows_under wishes",
+        "house": "House",
+        "branches": "elders come_of last_common line_to",
+        "merging": "in_order changes clashes merged",
+        "attempts": "attempt tried would",
+        "led": "Renaming MoreThings led_state led_fact led_worth led_deed led_paper led_house",
+        "housetexts": "write_house read_house",
     }
     METHODS = {
         "Scale": "worths plus times total __contains__ __len__ __eq__",
@@ -292,6 +298,10 @@ class Interface(unittest.TestCase):
         "Frame": "kinds told ruled places is_ruled __eq__",
         "Store": "things things_of kind_of rows worth has facts_of with_rows __len__ __eq__",
         "Program": "rules labels rule variables kind_at rules_for __len__ __eq__",
+        "House": "do present now state log undo redo branch go here branches trail mark merge worth worth_at watch watched "
+        "kept twin __eq__ __len__",
+        "Renaming": "pairs",
+        "MoreThings": "pairs",
     }
 
     def test_each_name_is_defined_in_its_file(self):

@@ -1,7 +1,7 @@
 """Reading a row of a text sign by sign."""
 
 from worthhouse.errors import BadText
-from worthhouse.words import LETTERS, MOST_SIGNS, WORD_SIGNS, is_sign_of
+from worthhouse.words import DIGITS, LETTERS, MOST_SIGNS, WORD_SIGNS, is_sign_of
 
 WORTH_SIGNS = "abcdefghijklmnopqrstuvwxyz0123456789/"
 
@@ -52,6 +52,13 @@ class RowReader:
         if not is_sign_of(self.sign(), WORTH_SIGNS):
             self.stop()
         return self.take_run(WORTH_SIGNS, None)
+
+    def take_number(self):
+        """Reads the signs of a number without zeros ahead, whether or not it can be that of anything."""
+        start = self.sign()
+        if not is_sign_of(start, DIGITS):
+            self.stop()
+        return self.take_run(DIGITS, 1 if start == "0" else None)
 
     def end(self):
         """Looks whether the whole row has been read."""

@@ -9,19 +9,18 @@ from worthhouse.words import is_word
 
 def write_program(program):
     """The text of a program."""
-    return "\n".join([_rule_row(rule) for rule in program.rules()])
+    return "\n".join([rule_text(rule) for rule in program.rules()])
 
 
 def read_program(frame, scale, text):
     """The program of a text."""
-    return Program(frame, scale, [_read_rule(RowReader(number, row)) for number, row in _numbered_rows(text)])
+    return Program(frame, scale, [read_rule(RowReader(number, row)) for number, row in _numbered_rows(text)])
 
 
 def write_store(store):
     """The text of a store."""
     things = [f"{thing} of {kind}" for thing, kind in store.things()]
-    rows = [f"{atom_text((name, filling))} = {worth}" for name, filling, worth in store.rows()]
-    return "\n".join(things + rows)
+    return "\n".join(things + [row_text(row) for row in store.rows()])
 
 
 def read_store(frame, scale, text):
@@ -29,7 +28,7 @@ def read_store(frame, scale, text):
     things = []
     rows = []
     for number, row in _numbered_rows(text):
-        part = _read_store_row(RowReader(number, row), not rows)
+        part = read_store_row(RowReader(number, row), not rows)
         if len(part) == 2:
             things.append(part)
         else:
@@ -37,13 +36,20 @@ def read_store(frame, scale, text):
     return Store(frame, scale, things, rows)
 
 
-def _rule_row(rule):
+def rule_text(rule):
+    """The row of a rule."""
     label, head, body, tests, worth = rule
     start = f"{_plain(label)}: {atom_text(head)}"
     items = [atom_text(atom) for atom in body] + [test_text(test) for test in tests]
     if items:
         start = start + " :- " + ", ".join(items)
     return f"{start} * {worth}"
+
+
+def row_text(row):
+    """The row of a row of a store."""
+    name, things, worth = row
+    return f"{atom_text((name, things))} = {worth}"
 
 
 def _plain(name):
@@ -73,7 +79,8 @@ def _numbered_rows(text):
     return list(enumerate(text.split("\n")))
 
 
-def _read_rule(reader):
+def read_rule(reader):
+    """A rule, up to the end of the row."""
     label = reader.take_word()
     reader.skip(": ")
     head = (reader.take_word(), read_places(reader, read_place))
@@ -129,10 +136,6 @@ def read_place(reader):
     return reader.take_word()
 
 
-def _read_thing(reader):
-    return reader.take_word()
-
-
 def read_places(reader, read_one):
     """What stands in brackets, with single blanks between."""
     reader.skip("(")
@@ -146,7 +149,18 @@ def read_places(reader, read_one):
     return tuple(places)
 
 
-def _read_store_row(reader, can_be_thing):
+def read_fact(reader):
+    """A fact."""
+    return (reader.take_word(), read_places(reader, _read_thing))
+
+
+def read_row(reader):
+    """A row of a store, up to the end of the row."""
+    name, things = read_fact(reader)
+    return _read_row_on(reader, name, things)
+
+
+def read_store_row(reader, can_be_thing):
     """A thing and its kind, or a row of the store; behind a row there are no things any more."""
     word = reader.take_word()
     if reader.sign() == " " and can_be_thing:
@@ -154,8 +168,16 @@ def _read_store_row(reader, can_be_thing):
         kind = reader.take_word()
         reader.end()
         return (word, kind)
-    things = read_places(reader, _read_thing)
+    return _read_row_on(reader, word, read_places(reader, _read_thing))
+
+
+def _read_row_on(reader, name, things):
+    """A row of which all but the worth has been read."""
     reader.skip(" = ")
     worth = reader.take_worth()
     reader.end()
-    return (word, things, worth)
+    return (name, things, worth)
+
+
+def _read_thing(reader):
+    return reader.take_word()
