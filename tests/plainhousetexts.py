@@ -11,7 +11,8 @@ from worthhouse.rules import need_fit
 from worthhouse.texts import read_program, read_store
 
 W = "[a-z][a-z0-9]{0,11}"
-NUM = "(?:0|[1-9][0-9]*)"
+# No number can be longer.
+NUM = "(?:0|[1-9][0-9]{0,3})"
 FACT = rf"{W}\((?:{W}(?: {W})*)?\)"
 ROW = rf"{FACT} = [a-z0-9/]+"
 PLACE = f"@?{W}"

@@ -34,6 +34,11 @@ def misfits():
     yield program, Store(other, store.scale, [], []), MixedFrames
     yield program, Store(FRAME, CountScale(3), [], []), MixedScales
     yield case("r: p(@a @b) * 1")[0], Store(FRAME, store.scale, [("a", "k")], []), UnknownThing
+    # In a scale that is not steady likewise: need_fit comes ahead of NotSteady.
+    turns = TurnScale(3)
+    yield Program(FRAME, turns, []), Store(other, turns, [], []), MixedFrames
+    yield Program(FRAME, turns, []), store, MixedScales
+    yield case("r: p(@a @b) * 1", scale=turns)[0], Store(FRAME, turns, [("a", "k")], []), UnknownThing
 
 
 def plain_one_by_one(program, store, order):

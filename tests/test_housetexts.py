@@ -208,6 +208,14 @@ class Wrong(unittest.TestCase):
         # State 5 came of 4, in which there is the rule m; in 2 there is none.
         self.check(10, "5 2 unrule m")
 
+    def test_long_numbers(self):
+        long = "1" + "0" * 5000
+        self.check(6, f"{long} 0 tell t() = 5")
+        self.check(6, f"1 {long} tell t() = 5")
+        self.check(11, f"6 5 merge {long}")
+        self.check(12, f"branch main {long} 0")
+        self.check(12, f"branch main 0 0 {long}")
+
     def test_merges(self):
         # The merged state is an elder of the elder, or the elder itself, or no earlier one.
         for row in ("6 5 merge 5", "6 5 merge 4", "6 5 merge 0", "6 5 merge 6", "6 5 merge 7", "6 2 merge 1", "6 5 merge 02", "6 5 merge 1000"):
@@ -222,6 +230,9 @@ class Wrong(unittest.TestCase):
             self.check(12, row)
         for row in ("branch main 0 0", "branch B 0 0", "branch b 4 0 3 4 5", "branch b 0 7", "branch b 0 0 3 4 6", "branch b 0 3 0", "branch b 0 6 7", "branch b.0 0 0"):
             self.check(13, row)
+        for row in ("branch main 1 0 0", "branch main 0 0 0"):
+            text = "\n".join(self.ROWS[:7] + [row, "here main"])
+            self.assertEqual(wrong_row(FRAME, COUNTS, text), 7)
         # What no calls lead to may stand: a trail that begins anywhere, a number twice in trails.
         one = self.stands(14, "branch c 1 1 2")
         self.assertEqual((one.trail("c"), one.mark("c")), ([1, 2], 1))
@@ -234,7 +245,7 @@ class Wrong(unittest.TestCase):
         self.check(14, "branch c 0 2 6")
 
     def test_here(self):
-        for row in ("here zz", "here", "here ", "here b b", "here  b", "Here b", "watch n()"):
+        for row in ("here zz", "here", "here ", "here b(", "here b:", "here b b", "here  b", "Here b", "watch n()"):
             self.check(15, row)
         self.check(15, None)
         self.check(16, "here b")

@@ -135,6 +135,21 @@ class Fold(Checked):
         forth = (facts + (("n.0", ("b",)),), start + (("n.0", ("b", "c"), ()), ("a", ("b", "b"), (0, 1, 0, 2)), ("n.0", ("b", "b"), ()), ("a", ("b", "b"), (0, 1, 0, 4))))
         self.check(self.RULES, ("fold", "a", (3,)), (facts, lines), forth)
 
+    def test_children_ahead_and_behind(self):
+        rules = "a: n() :- o(x), t(), p(x y), o(y), z(y) * 1\nb: o(x) :- e(x y) * 1\nd: p(x y) :- e(x y) * 1\nf: z(x) :- e(x x) * 1"
+        facts = (N, o("b"), o("a"), p("a", "b"), ("z", ("b",)))
+        start = (("b", ("b", "b"), ()), ("d", ("a", "b"), ()), ("f", ("b",), ()), ("b", ("a", "b"), ()))
+        lines = start + (("a", ("a", "b"), (3, 1, 0, 2)),)
+        for places, forth in [
+            ((2,), (("n.0", ("a", "b"), (1,)), ("a", ("a", "b"), (3, 4, 0, 2)))),
+            ((3,), (("n.0", ("b",), (0,)), ("a", ("a", "b"), (3, 1, 4, 2)))),
+            ((2, 3), (("n.0", ("a", "b"), (1, 0)), ("a", ("a", "b"), (3, 4, 2)))),
+            ((1, 3), (("n.0", ("b",), (0,)), ("a", ("a", "b"), (3, 4, 1, 2)))),
+            ((0, 4), (("n.0", ("a", "b"), (3, 2)), ("a", ("a", "b"), (4, 1, 0)))),
+        ]:
+            table = ("n.0", forth[0][1])
+            self.check(rules, ("fold", "a", places), (facts, lines), (facts + (table,), start + forth))
+
     def test_back_lines_of_the_new_table_go(self):
         behind = ((("n.0", ("b",)), N, ("n.0", ("a",))), (("n.0", ("b", "c"), ()), ("n.0", ("a", "b"), ())))
         self.check_back(self.RULES, ("fold", "a", (3,)), behind, ((N,), ()))

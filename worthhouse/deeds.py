@@ -73,8 +73,7 @@ def _raise_row(program, store, deed):
 
 def _clear(program, store, deed):
     _, name, things = deed
-    if not store.frame.has_told(name):
-        raise NotTold(name)
+    # This raises NotTold itself.
     if not store.has(name, things):
         raise NoRow(name, things)
     return (program, store.with_rows(_other_rows(store, name, things)))

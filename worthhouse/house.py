@@ -130,16 +130,7 @@ class House:
     def __eq__(self, other):
         if not isinstance(other, House):
             return False
-        own, others = self.past, other.past
-        first, other_first = own.moments[0], others.moments[0]
-        return (
-            first.program == other_first.program
-            and first.store == other_first.store
-            and own.steps == others.steps
-            and list(own.trails.items()) == list(others.trails.items())
-            and own.standing == others.standing
-            and own.watching == others.watching
-        )
+        return self.past.told() == other.past.told()
 
     def __len__(self):
         return len(self.past.moments)

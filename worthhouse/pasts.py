@@ -44,6 +44,11 @@ class Past:
         self.standing = standing
         self.watching = watching
 
+    def told(self):
+        """What equal houses have in common: two pasts that tell the same are those of equal houses."""
+        first = self.moments[0]
+        return (first.program, first.store, self.steps, list(self.trails.items()), self.standing, self.watching)
+
     def present_number(self):
         """The number of the present state."""
         trail, place = self.trails[self.standing]

@@ -23,7 +23,7 @@ class Serving:
         spoken = {row: True for use, _ in self._weighed for row in use[3]}
         self.mattering = [row for row in store.rows() if row[:2] in spoken]
         bits = {row[:2]: 1 << number for number, row in enumerate(self.mattering)}
-        self._masks = [sum([bits[row] for row in {row: True for row in use[3]}]) for use, _ in self._weighed]
+        self._masks = [_mask_by(bits, use[3]) for use, _ in self._weighed]
         self._settling = Settling(program.scale, [(use[2], use[4]) for use, _ in self._weighed])
         self._kept = {}
         self._full = self.worth_with((1 << len(self.mattering)) - 1)
@@ -61,6 +61,13 @@ class Serving:
                 rested_on.update({child: True for child in lines[number][2]})
                 mask = mask | own
         return [number for number in range(len(self.mattering)) if mask & (1 << number)]
+
+
+def _mask_by(bits, facts):
+    mask = 0
+    for fact in facts:
+        mask = mask | bits[fact]
+    return mask
 
 
 def _giving(scale, weighed, fact):
