@@ -29,24 +29,57 @@ def best_plan(program, store, names, most):
     """The least list of at most so many turns behind which a program costs least, and this cost."""
     need_fit(program, store)
     need_ruled_tables(program, names)
-    costing = Costing(store)
-    best = ([], costing.cost_of(program.frame, program.rules()))
-    plans = [([], program)]
+    planning = Planning(program, store, names)
     for number in range(most):
+        if number == most - 1:
+            planning.end_plans()
+        else:
+            planning.lengthen_plans()
+    return planning.best()
+
+
+class Planning:
+    """Plans of one length that go on, each with its program and the cost of that; and the best plan so far.
+
+    Plans are gone through in their order, shorter ones first. So a plan is better than
+    the best one so far only if it costs less.
+    """
+
+    def __init__(self, program, store, names):
+        self._names = names
+        self._costing = Costing(store)
+        price = self._costing.cost_of(program.frame, program.rules())
+        self._plans = [([], program, price)]
+        self._best = ([], price)
+
+    def best(self):
+        """The best plan, and what the program costs behind it."""
+        return self._best
+
+    def lengthen_plans(self):
+        """Each plan goes on by each turn that can be done."""
         further = []
-        for turns, met_program in plans:
-            is_last = number == most - 1
-            # A longer plan must cost less than a shorter one, so the last turn must save something.
-            for turn in saving_turns(met_program, names) if is_last else all_turns(met_program, names):
-                # These turns name no thing that the rules do not name ahead of them: so the program fits still.
-                frame, rules, _ = rules_behind(met_program, turn)
-                price = costing.cost_of(frame, rules)
-                if price < best[1]:
-                    best = (turns + [turn], price)
-                if not is_last:
-                    further.append((turns + [turn], made_program(frame, met_program.scale, rules)))
-        plans = further
-    return best
+        for turns, program, _ in self._plans:
+            for turn in all_turns(program, self._names):
+                longer = [*turns, turn]
+                # No such turn names a thing that no rule named ahead of it: the program fits the store still.
+                frame, rules, _ = rules_behind(program, turn)
+                price = self._costing.cost_of(frame, rules)
+                self._look_at(longer, price)
+                further.append((longer, made_program(frame, program.scale, rules), price))
+        self._plans = further
+
+    def end_plans(self):
+        """Each plan goes on once more, by the turns alone that may make it the best one."""
+        for turns, program, price in self._plans:
+            for turn in saving_turns(program, self._names):
+                if self._costing.least_behind(program, price, turn) < self._best[1]:
+                    frame, rules, _ = rules_behind(program, turn)
+                    self._look_at([*turns, turn], self._costing.cost_of(frame, rules))
+
+    def _look_at(self, turns, price):
+        if price < self._best[1]:
+            self._best = (turns, price)
 
 
 class Costing:
@@ -67,3 +100,11 @@ class Costing:
                 counts[key] = self._tallies.use_tally(frame, rule)
             found += counts[key]
         return found
+
+    def least_behind(self, program, price, turn):
+        """What a program of this price costs at least behind one of saving_turns."""
+        if turn[0] == "drop":
+            return 0
+        # Of a join the second rule goes, of others the one that is spoken of is made anew.
+        label = turn[2] if turn[0] == "join" else turn[1]
+        return price - self.cost_of(program.frame, [program.rule(label)])
