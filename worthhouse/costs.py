@@ -39,17 +39,19 @@ def best_plan(program, store, names, most):
 
 
 class Planning:
-    """Plans of one length that go on, each with its program and the cost of that; and the best plan so far.
+    """Plans of one length that go on, and the best plan so far.
 
-    Plans are gone through in their order, shorter ones first. So a plan is better than
-    the best one so far only if it costs less.
+    A plan is told by its turns, and by the frame, the rules and the cost of the program
+    behind them. Plans are gone through in their order, shorter ones first. So a plan is
+    better than the best one so far only if it costs less.
     """
 
     def __init__(self, program, store, names):
+        self._scale = program.scale
         self._names = names
         self._costing = Costing(store)
         price = self._costing.cost_of(program.frame, program.rules())
-        self._plans = [([], program, price)]
+        self._plans = [([], program.frame, program.rules(), price)]
         self._best = ([], price)
 
     def best(self):
@@ -59,27 +61,36 @@ class Planning:
     def lengthen_plans(self):
         """Each plan goes on by each turn that can be done."""
         further = []
-        for turns, program, _ in self._plans:
+        for turns, frame, rules, _ in self._plans:
+            program = made_program(frame, self._scale, rules)
             for turn in all_turns(program, self._names):
-                longer = [*turns, turn]
-                # No such turn names a thing that no rule named ahead of it: the program fits the store still.
-                frame, rules, _ = rules_behind(program, turn)
-                price = self._costing.cost_of(frame, rules)
-                self._look_at(longer, price)
-                further.append((longer, made_program(frame, program.scale, rules), price))
+                further.append(self._looked_at(turns, program, turn))
         self._plans = further
 
     def end_plans(self):
         """Each plan goes on once more, by the turns alone that may make it the best one."""
-        for turns, program, price in self._plans:
-            for turn in saving_turns(program, self._names):
-                if self._costing.least_behind(program, price, turn) < self._best[1]:
-                    frame, rules, _ = rules_behind(program, turn)
-                    self._look_at([*turns, turn], self._costing.cost_of(frame, rules))
+        for turns, frame, rules, price in self._plans:
+            if self._can_be_best(frame, rules, price):
+                program = made_program(frame, self._scale, rules)
+                for turn in saving_turns(program, self._names):
+                    if self._costing.least_behind(program, price, turn) < self._best[1]:
+                        self._looked_at(turns, program, turn)
 
-    def _look_at(self, turns, price):
+    def _can_be_best(self, frame, rules, price):
+        """Whether one more turn may lead to less than the best cost: it spares one rule or drops some."""
+        own = [rule for rule in rules if rule[1][0] in self._names]
+        dearest = max([0] + [self._costing.cost_of(frame, [rule]) for rule in rules])
+        return min(price - dearest, self._costing.cost_of(frame, own)) < self._best[1]
+
+    def _looked_at(self, turns, program, turn):
+        """The plan that goes on by this turn, which is the best one if it costs less."""
+        # No such turn names a thing that no rule named ahead of it: the program fits the store still.
+        frame, rules, _ = rules_behind(program, turn)
+        price = self._costing.cost_of(frame, rules)
+        longer = [*turns, turn]
         if price < self._best[1]:
-            self._best = (turns, price)
+            self._best = (longer, price)
+        return (longer, frame, rules, price)
 
 
 class Costing:

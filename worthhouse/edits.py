@@ -9,7 +9,7 @@ from worthhouse.keeping import Keeping
 from worthhouse.resting import need_steady
 from worthhouse.rounds import ruled_facts, weights_by
 from worthhouse.rules import need_fit
-from worthhouse.settling import settled_table
+from worthhouse.settling import settled_worths
 from worthhouse.uses import row_worths, weighed_uses, weighed_uses_for
 
 
@@ -58,14 +58,12 @@ def deeds_between(program, store, other, other_store):
 
 def touched(program, store, deed):
     """The list of the facts that a deed touches, in the order of ruled_facts."""
-    led_program, led_store = edited(program, store, deed)
-    ahead = _weights_for(program, store, _spoken_labels(program, deed))
-    behind = _weights_for(led_program, led_store, _spoken_labels(led_program, deed))
-    heads = [use[2] for use in [*ahead, *behind] if ahead.get(use) != behind.get(use)]
-    if not heads:
-        return []
-    others = [label for label in program.labels() if label not in _spoken_labels(program, deed)]
-    found = _facts_above(heads, [*ahead, *behind, *_weights_for(program, store, others)])
+    led = edited(program, store, deed)
+    ahead, behind, others = _weighed_around((program, store), led, deed)
+    weights, led_weights = dict(ahead), dict(behind)
+    uses = [*weights, *led_weights]
+    heads = [use[2] for use in uses if weights.get(use) != led_weights.get(use)]
+    found = _facts_above(heads, uses + [use for use, _ in others]) if heads else {}
     return [fact for fact in ruled_facts(program, store) if fact in found]
 
 
@@ -73,10 +71,15 @@ def changed(program, store, deed):
     """The list of the tuples (fact, ahead, behind) of the facts whose settled worths the deed changes."""
     need_fit(program, store)
     need_steady(program.scale)
-    led_program, led_store = edited(program, store, deed)
-    ahead = settled_table(program, store)
-    behind = settled_table(led_program, led_store)
-    return [(fact, ahead[fact], behind[fact]) for fact in ahead if ahead[fact] != behind[fact]]
+    led = edited(program, store, deed)
+    ahead, behind, others = _weighed_around((program, store), led, deed)
+    if ahead == behind:
+        return []
+    worths = settled_worths(program.scale, others + ahead)
+    led_worths = settled_worths(program.scale, others + behind)
+    nought = program.scale.nought
+    pairs = [(fact, worths.get(fact, nought), led_worths.get(fact, nought)) for fact in ruled_facts(program, store)]
+    return [(fact, before, after) for fact, before, after in pairs if before != after]
 
 
 def kept_lines(program, store, lines):
@@ -122,9 +125,17 @@ def _spoken_labels(program, deed):
     return [label for label, _, body, _, _ in program.rules() if deed[1] in [atom[0] for atom in body]]
 
 
-def _weights_for(program, store, labels):
-    """A dict from the uses of some rules to their worths."""
-    return dict(weighed_uses_for(program, store, labels))
+def _weighed_around(state, led_state, deed):
+    """Lists of pairs of a use and its worth: those that a deed can change, ahead and behind, and all others."""
+    program, store = state
+    led_program, led_store = led_state
+    labels = _spoken_labels(program, deed)
+    left = [label for label in program.labels() if label not in labels]
+    return (
+        weighed_uses_for(program, store, labels),
+        weighed_uses_for(led_program, led_store, _spoken_labels(led_program, deed)),
+        weighed_uses_for(program, store, left),
+    )
 
 
 def _facts_above(heads, uses):

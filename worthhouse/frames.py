@@ -39,9 +39,12 @@ class Frame:
 
     def is_ruled(self, name):
         """True if the table is ruled, False if it is told."""
-        if not self.has_table(name):
+        # Asked for most of all, so the usual cases are short looks.
+        if is_known(self._ruled, name):
+            return True
+        if not is_known(self._told, name):
             raise UnknownName(name)
-        return self.has_ruled(name)
+        return False
 
     def has_table(self, name):
         """Whether the name, any value, is that of a table."""

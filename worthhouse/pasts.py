@@ -4,7 +4,8 @@ So the past that a house had once is there again, whole, as soon as it is given 
 """
 
 from worthhouse.papers import paper_of
-from worthhouse.settling import settled_table
+from worthhouse.settling import settled_worths
+from worthhouse.uses import weighed_uses
 
 
 class Moment:
@@ -12,15 +13,15 @@ class Moment:
 
     def __init__(self, state):
         self.program, self.store = state
-        self._table = None
+        self._worths = None
         self._paper = None
         self._shown = ()
 
     def worth_of(self, fact):
         """The settled worth of a ruled fact, in a steady scale."""
-        if self._table is None:
-            self._table = settled_table(self.program, self.store)
-        return self._table[fact]
+        if self._worths is None:
+            self._worths = settled_worths(self.program.scale, weighed_uses(self.program, self.store))
+        return self._worths.get(fact, self.program.scale.nought)
 
     def paper_for(self, facts):
         """A paper that is let by for the least whole set with these facts, in a steady scale."""

@@ -1,7 +1,7 @@
 """Which rows serve a fact, asked for many lists of rows of one store (point S8.7)."""
 
 from worthhouse.growing import Growing
-from worthhouse.settling import Settling, uses_below
+from worthhouse.settling import Settling, settled_worths, uses_below
 from worthhouse.uses import weighed_uses
 
 
@@ -72,8 +72,7 @@ def _mask_by(bits, facts):
 
 def _giving(scale, weighed, fact):
     """The pairs of a use and its worth, from the fact downwards, of the uses that give something with all rows."""
-    settling = Settling(scale, [(use[2], use[4]) for use, _ in weighed])
-    worths = settling.worths_by([weight for _, weight in weighed])
+    worths = settled_worths(scale, weighed)
     giving = [
         (use, weight)
         for use, weight in weighed

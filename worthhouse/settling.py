@@ -5,9 +5,6 @@ each one gets it again when a worth below it has changed (point S3.7). And where
 worths of the uses are other ones, what hangs on what needs to be found but once.
 """
 
-from worthhouse.rounds import ruled_facts
-from worthhouse.uses import weighed_uses
-
 
 class Settling:
     """Uses, each told by its head and its ruled facts, for facts that are a whole set."""
@@ -49,12 +46,10 @@ class Settling:
         return worth
 
 
-def settled_table(program, store):
-    """The settled table of a program over a store, in a steady scale."""
-    weighed = weighed_uses(program, store)
-    settling = Settling(program.scale, [(use[2], use[4]) for use, _ in weighed])
-    worths = settling.worths_by([worth for _, worth in weighed])
-    return {fact: worths.get(fact, program.scale.nought) for fact in ruled_facts(program, store)}
+def settled_worths(scale, weighed):
+    """A dict of the settled worths that are not nought, by the pairs of a use and its worth, in a steady scale."""
+    settling = Settling(scale, [(use[2], use[4]) for use, _ in weighed])
+    return settling.worths_by([worth for _, worth in weighed])
 
 
 def uses_below(weighed, fact):

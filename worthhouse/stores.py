@@ -12,6 +12,7 @@ class Store:
         self.scale = scale
         self._kinds = _checked_things(frame, things)
         self._worths = _checked_rows(self, rows)
+        self._by_table = None
 
     def things(self):
         """The list of the pairs of a thing and its kind, in order."""
@@ -36,6 +37,14 @@ class Store:
     def rows(self):
         """The list of the rows, in the order in which they were told."""
         return [(fact[0], fact[1], worth) for fact, worth in self._worths.items()]
+
+    def things_in(self, name):
+        """The list of the tuples of things of the rows of a told table."""
+        if self._by_table is None:
+            self._by_table = {table: [] for table, _ in self.frame.told()}
+            for table, things in self._worths:
+                self._by_table[table].append(things)
+        return list(self._by_table[name])
 
     def worth(self, name, things):
         """The worth of the row of a fact."""
