@@ -103,6 +103,13 @@ class Best(unittest.TestCase):
         made, store = case("a: n() :- e(x y), e(y z) * 1")
         self.assertEqual(best_plan(made, store, ["n"], 2), ([], 4))
 
+    def test_a_dear_turn_ahead_of_a_drop(self):
+        made, store = case("a: n() :- o(x) * 1\nb: o(x) :- e(x y) * 1\nc: o(x) :- e(y x) * 1")
+        # The first turn costs 3 more; then neither rule of o is needed any longer.
+        self.assertEqual(plan_costs(made, store, [("unfold", "a", 0), ("drop", ("n",))]), [9, 12, 6])
+        self.assertEqual(best_plan(made, store, ["n"], 2), ([("unfold", "a", 0), ("drop", ("n",))], 6))
+        self.assertEqual(best_plan(made, store, ["n"], 2), plain_best(made, store, ["n"], 2))
+
     def small_cases(self, seed, many):
         for made, store in many_cases(seed, steady_scales(), many):
             if len(made) <= 5 and all(len(rule[2]) <= 3 for rule in made.rules()):

@@ -116,6 +116,5 @@ class Costing:
         """What a program of this price costs at least behind one of saving_turns."""
         if turn[0] == "drop":
             return 0
-        # Of a join the second rule goes, of others the one that is spoken of is made anew.
-        label = turn[2] if turn[0] == "join" else turn[1]
-        return price - self.cost_of(program.frame, [program.rule(label)])
+        # The rule that is spoken of is made anew; of a join another one goes, which has as many uses.
+        return price - self.cost_of(program.frame, [program.rule(turn[1])])
